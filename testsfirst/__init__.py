@@ -1,0 +1,1 @@
+"""Which test first: the order of tests that sees a failure soonest on the average."""
