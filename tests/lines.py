@@ -29,6 +29,18 @@ def order():
     return [3]
 
 
+def price(row):
+    return [4, len(row), *row]
+
+
+def within(time):
+    return [5, time]
+
+
+def open_tests():
+    return [6]
+
+
 def flat(calls):
     return [number for call in calls for number in call]
 
@@ -53,6 +65,10 @@ def ask(*calls):
     return split_answers(answers(flat(calls)), len(calls))
 
 
+def millionths(fraction):
+    return floor(fraction * 1000000)
+
+
 class Model:
     """A house by the document's words, with fractions and a search through all rows of tests."""
 
@@ -65,7 +81,8 @@ class Model:
 
     def answer(self, call):
         kind, *numbers = call
-        return [self.begins, self.test, self.pass_test, self.order][kind](numbers)
+        kinds = [self.begins, self.test, self.pass_test, self.order, self.price, self.within, self.open_tests]
+        return kinds[kind](numbers)
 
     def begins(self, numbers):
         whole, count, *settings = numbers
@@ -103,30 +120,69 @@ class Model:
         self.up = setting
         return [took]
 
+    def left(self):
+        return [number for number in range(len(self.tests)) if number not in self.passed]
+
     def is_order(self, row):
         done = set(self.passed)
         for number in row:
-            if not self.tests[number][3] <= done:
+            if number in done or number >= len(self.tests) or not self.tests[number][3] <= done:
                 return False
             done.add(number)
         return True
 
+    def elapsed(self, row):
+        """How much time has gone when each test of the row is through, if none fails."""
+        up, gone, times = self.up, 0, []
+        for number in row:
+            time, _, setting, _ = self.tests[number]
+            gone += time + (0 if setting == up else self.settings[setting])
+            up = setting
+            times.append(gone)
+        return times
+
+    def length(self, row):
+        return max(self.elapsed(row), default=0)
+
     def average(self, row):
         """The mean over where the first failure falls, as the document words it."""
-        mean, reached, elapsed, up = Fraction(0), Fraction(1), 0, self.up
-        for number in row:
-            time, chance, setting, _ = self.tests[number]
-            elapsed += time + (0 if setting == up else self.settings[setting])
-            up = setting
-            mean += reached * chance * elapsed
+        mean, reached = Fraction(0), Fraction(1)
+        for number, gone in zip(row, self.elapsed(row)):
+            chance = self.tests[number][1]
+            mean += reached * chance * gone
             reached *= 1 - chance
-        return mean + reached * elapsed
+        return mean + reached * self.length(row)
+
+    def chance(self, row):
+        """The chances that a test is the first to fail, summed."""
+        seen = Fraction(0)
+        for number in row:
+            seen += (1 - seen) * self.tests[number][1]
+        return seen
 
     def order(self, numbers):
-        left = [number for number in range(len(self.tests)) if number not in self.passed]
+        left = self.left()
         rows = [row for row in permutations(left) if self.is_order(row)]
         best = min(rows, key=lambda row: (self.average(row), row))
-        return [len(left), *best, floor(self.average(best) * 1000000)]
+        return [len(left), *best, millionths(self.average(best))]
+
+    def price(self, numbers):
+        row = numbers[1:]
+        if not self.is_order(row):
+            return [-5]
+        return [millionths(self.average(row)), self.length(row)]
+
+    def within(self, numbers):
+        left = self.left()
+        rows = [row for count in range(len(left) + 1) for row in permutations(left, count) if self.is_order(row)]
+        short = [row for row in rows if self.length(row) <= numbers[0]]
+        # Python's own comparison puts a row that's over before one that goes on.
+        best = min(short, key=lambda row: (-self.chance(row), self.length(row), row))
+        return [millionths(self.chance(best)), self.length(best), *best]
+
+    def open_tests(self, numbers):
+        fit = [number for number in self.left() if self.is_order([number])]
+        return [len(fit), *fit]
 
 
 def model_answers(calls):

@@ -44,6 +44,11 @@ def walk(kind):
     return [(path.name, node) for path, tree in trees().items() for node in ast.walk(tree) if isinstance(node, kind)]
 
 
+def names_at_top(tree):
+    names = [node.name for node in tree.body if isinstance(node, (ast.FunctionDef, ast.ClassDef))]
+    return names + [target.id for node in tree.body if isinstance(node, ast.Assign) for target in node.targets]
+
+
 class Files(unittest.TestCase):
     def test_only_files_with_plain_names_lie_in_the_package(self):
         lying = [path.name for path in PACKAGE.iterdir() if path.name != "__pycache__"]
@@ -82,12 +87,27 @@ class Forms(unittest.TestCase):
             self.assertEqual((extra, arguments.vararg, arguments.kwarg), ([], None, None), (name, node.name))
 
     def test_imports_come_from_the_file_that_defines_the_name(self):
-        defined = {path.stem: [getattr(node, "name", None) for node in tree.body] for path, tree in trees().items()}
+        defined = {path.stem: names_at_top(tree) for path, tree in trees().items()}
         for name, node in walk(ast.ImportFrom):
             package, _, module = node.module.partition(".")
             self.assertEqual((package, node.level), ("testsfirst", 0), name)
             for alias in node.names:
                 self.assertIn(alias.name, defined[module], name)
+
+    def test_a_name_is_bound_once_at_the_top(self):
+        for path, tree in trees().items():
+            names = names_at_top(tree)
+            self.assertEqual(sorted(names), sorted(set(names)), path)
+
+    def test_no_files_draw_from_one_another(self):
+        drawn = {path.stem: set() for path in sources()}
+        for name, node in walk(ast.ImportFrom):
+            drawn[name.removesuffix(".py")].add(node.module.partition(".")[2])
+        while drawn:
+            ready = [name for name, modules in drawn.items() if not modules & set(drawn)]
+            self.assertNotEqual(ready, [], drawn)
+            for name in ready:
+                del drawn[name]
 
     def test_names(self):
         for name, node in walk((ast.Name, ast.arg)):

@@ -1,14 +1,17 @@
 """The calls on one house, and what they answer."""
 
-from testsfirst.house import House
+from testsfirst.house import House, NO_ORDER
 from testsfirst.reader import Reader
-from testsfirst.runs import average_in_millionths
-from testsfirst.search import best_run
+from testsfirst.runs import average_in_millionths, chance_in_millionths, empty_run, next_tests, run_of_row
+from testsfirst.search import best_run, run_within
 
 BEGINS = 0
 TEST = 1
 PASS_TEST = 2
 ORDER = 3
+PRICE = 4
+WITHIN = 5
+OPEN_TESTS = 6
 
 
 class UnknownCall(ValueError):
@@ -38,6 +41,23 @@ def answer_order(house):
     return [len(best.order)] + best.order + [average_in_millionths(best)]
 
 
+def answer_price(house, reader):
+    run = run_of_row(house, reader.read_row())
+    if run is None:
+        return [NO_ORDER]
+    return [average_in_millionths(run), run.length]
+
+
+def answer_within(house, reader):
+    run = run_within(house, reader.read_number())
+    return [chance_in_millionths(run), run.length] + run.order
+
+
+def answer_open_tests(house):
+    numbers = next_tests(house, empty_run(house))
+    return [len(numbers)] + numbers
+
+
 def answer_call(house, reader):
     call = reader.read_number()
     if call == BEGINS:
@@ -48,6 +68,12 @@ def answer_call(house, reader):
         return answer_pass_test(house, reader)
     if call == ORDER:
         return answer_order(house)
+    if call == PRICE:
+        return answer_price(house, reader)
+    if call == WITHIN:
+        return answer_within(house, reader)
+    if call == OPEN_TESTS:
+        return answer_open_tests(house)
     raise UnknownCall(call)
 
 

@@ -1,4 +1,4 @@
-"""A run: an order, test by test, with what it takes on the average as an exact fraction."""
+"""A run: an order, test by test, with its length and, as exact fractions, its average and its chance."""
 
 from testsfirst.house import needs_met
 
@@ -8,16 +8,17 @@ MILLION = 1000000
 # The average is spent / scale, and the chance that no test of the order fails is alive / scale:
 # one denominator for both keeps them exact in whole numbers.
 class Run:
-    def __init__(self, order, up, spent, alive, scale):
+    def __init__(self, order, up, length, spent, alive, scale):
         self.order = order
         self.up = up
+        self.length = length
         self.spent = spent
         self.alive = alive
         self.scale = scale
 
 
 def empty_run(house):
-    return Run([], house.up, 0, 1, 1)
+    return Run([], house.up, 0, 0, 1, 1)
 
 
 def longer_run(house, run, number):
@@ -26,7 +27,7 @@ def longer_run(house, run, number):
     # A test's time is spent only if all those before it have passed.
     spent = (run.spent + time * run.alive) * house.whole
     alive = run.alive * (house.whole - test.failures)
-    return Run(run.order + [number], test.setting, spent, alive, run.scale * house.whole)
+    return Run(run.order + [number], test.setting, run.length + time, spent, alive, run.scale * house.whole)
 
 
 def next_tests(house, run):
@@ -37,5 +38,19 @@ def next_tests(house, run):
     ]
 
 
+# None if the row is no order.
+def run_of_row(house, row):
+    run = empty_run(house)
+    for number in row:
+        if number not in next_tests(house, run):
+            return None
+        run = longer_run(house, run, number)
+    return run
+
+
 def average_in_millionths(run):
     return run.spent * MILLION // run.scale
+
+
+def chance_in_millionths(run):
+    return (run.scale - run.alive) * MILLION // run.scale
